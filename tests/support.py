@@ -1,0 +1,157 @@
+"""Plain ways to know what the program must tell, and texts and tongues to ask it about."""
+
+from itertools import product
+
+from textworkshop.signs import all_signs
+from textworkshop.tongues import Tongue
+
+
+def texts_up_to(signs, length):
+    """All texts of these signs up to a length, by length and order of signs."""
+    for many in range(length + 1):
+        for told in product(sorted(signs), repeat=many):
+            yield "".join(told)
+
+
+def told_error(test, error, call, *args, **more):
+    """The fields of the error that a call raises."""
+    with test.assertRaises(error) as caught:
+        call(*args, **more)
+    test.assertIs(type(caught.exception), error)
+    return tuple(vars(caught.exception).values())
+
+
+def plain_least(named, rows, good):
+    """The least table by rounds of refining, state by state (for small tables)."""
+    signs = all_signs()
+
+    def moved(state, sign):
+        return rows[state][named.index(sign) if sign in named else len(named)]
+
+    met = [0]
+    for state in met:
+        for sign in signs:
+            if moved(state, sign) not in met:
+                met.append(moved(state, sign))
+    classes = {state: state in good for state in met}
+    while True:
+        told = {s: (classes[s], tuple(classes[moved(s, sign)] for sign in signs)) for s in met}
+        numbers = {one: k for k, one in enumerate(dict.fromkeys(told.values()))}
+        finer = {s: numbers[told[s]] for s in met}
+        if len(set(finer.values())) == len(set(classes.values())):
+            break
+        classes = finer
+    lots = {}
+    for sign in signs:
+        lots.setdefault(tuple(finer[moved(s, sign)] for s in met), []).append(sign)
+    rest = max(lots.values(), key=lambda lot: (len(lot), -signs.index(lot[0])))
+    least_named = [sign for sign in signs if sign not in rest]
+    asked = least_named + [rest[0]]
+    order, leader = [finer[0]], {finer[s]: s for s in reversed(met)}
+    for number in order:
+        for sign in asked:
+            if finer[moved(leader[number], sign)] not in order:
+                order.append(finer[moved(leader[number], sign)])
+    least_rows = tuple(tuple(order.index(finer[moved(leader[k], sign)]) for sign in asked) for k in order)
+    return "".join(least_named), least_rows, tuple(k for k, c in enumerate(order) if leader[c] in good)
+
+
+def plain_kinds(tongue_text, text):
+    """The kinds of a text, sentence by sentence as they are told of tongues."""
+    rules = [line.split(" ") for line in tongue_text.split("\n")] if tongue_text else []
+    kinds, place = "", 0
+    while place < len(text):
+        openers = [rule for rule in rules if text.startswith(rule[1], place)]
+        if not openers:
+            kinds, place = kinds + "c", place + 1
+            continue
+        rule = max(openers, key=lambda one: len(one[1]))
+        end = plain_end(rule, text, place + len(rule[1]))
+        kinds, place = kinds + rule[0][0] * (end - place), end
+    return kinds
+
+
+def plain_end(rule, text, place):
+    """The place behind a piece whose opening mark ends at a place."""
+    opener, closer, options = rule[1], rule[3], rule[4:]
+    escape = options[options.index("escape") + 1] if "escape" in options else None
+    most = int(options[options.index("nested") + 1]) if "nested" in options else None
+    depth = 1
+    while place < len(text):
+        closes = closer != "line" and text.startswith(closer, place)
+        opens = text.startswith(opener, place)
+        if text[place] == escape:
+            place = min(place + 2, len(text))
+        elif "doubled" in options and text.startswith(closer + closer, place):
+            place += 2 * len(closer)
+        elif most and (closes or (opens and depth < most)):
+            if opens and depth < most and (not closes or len(opener) > len(closer)):
+                depth, place = depth + 1, place + len(opener)
+            else:
+                depth, place = depth - 1, place + len(closer)
+                if depth == 0:
+                    return place
+        elif not most and closes:
+            return place + len(closer)
+        elif text[place] == "\n" and (closer == "line" or "line" in options):
+            return place
+        else:
+            place += 1
+    return place
+
+
+def any_mark(source, signs):
+    return "".join(source.choice(signs) for _ in range(source.choice([1, 1, 1, 2, 2, 3, 4])))
+
+
+def any_rule(source, signs):
+    """A rule with any options that may stand together."""
+    opener = any_mark(source, signs)
+    words = [source.choice(["remark", "quote"]), opener, "to"]
+    words.append(source.choice(["line", opener, any_mark(source, signs), any_mark(source, signs)]))
+    if words[0] == "remark" and words[3] not in ("line", opener) and source.random() < 0.5:
+        words += ["nested", source.choice("234")]
+    if source.random() < 0.4:
+        words += ["escape", source.choice(signs)]
+    if words[3] != "line" and "nested" not in words and source.random() < 0.5:
+        words.append("doubled")
+    if words[3] != "line" and source.random() < 0.4:
+        words.append("line")
+    return " ".join(words)
+
+
+def any_tongue(source, signs, many):
+    """A tongue of up to so many rules, the marks of which are of these signs."""
+    rules = {}
+    for _ in range(many):
+        rule = any_rule(source, signs)
+        rules[rule.split(" ")[1]] = rule
+    return Tongue("\n".join(rules.values()))
+
+
+def any_text(source, signs, most):
+    return "".join(source.choice(signs) for _ in range(source.randint(0, most)))
+
+
+def tongue_of_weight(weight):
+    """A tongue with this weight, of rules with unlike marks."""
+    rules = []
+    left = weight - 1
+    starts = list("!#&*+,")
+    while left:
+        opener = starts.pop()
+        size = min(left, 20 if left >= 20 else 9)
+        if size == 20:
+            rules.append(f"remark {opener} to '''' nested 4 escape ;")
+        elif size == 9:
+            rules.append(f"quote {opener} to '''' escape ; doubled")
+        elif size == 8:
+            rules.append(f"quote {opener} to '''' doubled")
+        elif size > 4:
+            rules.append(f"quote {opener + ':' * (size - 4)} to ''''")
+        else:
+            rules.append(f"quote {opener} to " + "'" * size)
+        left -= size
+    tongue = Tongue("\n".join(rules))
+    assert tongue.weight == weight, (tongue.weight, weight)
+    return tongue

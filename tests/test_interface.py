@@ -1,0 +1,61 @@
+"""Each name of the interface is defined in its file, and in its class, with its arguments."""
+
+import ast
+import unittest
+from pathlib import Path
+
+PACKAGE = Path(__file__).resolve().parent.parent / "textworkshop"
+FUNCTIONS = {
+    "signs": ["is_sign(value)", "is_text(value)", "is_word(value)", "lines_of(text)", "text_of(lines)",
+              "line_starts(text)", "all_signs()"],
+    "statetables": ["table_of(first, step, is_good, named)", "table_of_ways(firsts, steps, is_good, named)"],
+    "textsets": ["all_texts()", "no_texts()", "one_text(text)", "beginning_with(word)", "ending_with(word)",
+                 "having_word(word)", "joined_texts(s, t)", "each_line(s)", "some_line(s)"],
+    "tongues": [], "readings": [], "rereading": [],
+    "tonguesets": ["closed_texts(tongue)", "texts_read_as(tongue, kinds)", "texts_read_apart(one, two)",
+                   "idle_rules(tongue)", "lean_tongue(tongue)"],
+    "words": ["line_words(line)", "quoted_text(word)"],
+    "linetests": ["plain_test(word, argument=None)", "range_test(first, second)", "other_test(test)"],
+}
+METHODS = {
+    ("statetables", "StateTable"): ["__init__(self, named, rows, good)", "__eq__(self, other)", "moved(self, state, sign)",
+                                    "reached(self, text)", "is_good(self, state)"],
+    ("textsets", "TextSet"): [
+        "__init__(self, table)", "__contains__(self, text)", "__and__(self, other)", "__or__(self, other)",
+        "__sub__(self, other)", "__invert__(self)", "__eq__(self, other)", "is_empty(self)", "within(self, other)",
+        "least_text(self)", "many_of(self, length)", "text_at(self, length, number)", "all_many(self)",
+        "behind(self, word)", "ahead(self, word)"],
+    ("tongues", "Tongue"): [
+        "__init__(self, text)", "__len__(self)", "__iter__(self)", "__eq__(self, other)", "kinds(self, text)",
+        "pieces(self, text)", "piece_at(self, text, place)", "line_kinds(self, text)", "is_closed(self, text)",
+        "closing(self, text)", "without(self, index)"],
+    ("readings", "ReadingMachine"): ["__init__(self, tongue)", "moved(self, stand, sign)", "ended(self, stand)"],
+    ("rereading", "Rereading"): ["__init__(self, tongue, text)", "kinds(self)", "write(self, place, text)",
+                                 "cut(self, start, stop)"],
+    ("linetests", "LineTest"): ["truths(self, lines)", "__eq__(self, other)"],
+}
+
+
+def defined(body):
+    return [f"{node.name}({ast.unparse(node.args)})" for node in body if isinstance(node, ast.FunctionDef)]
+
+
+def tree_of(name):
+    return ast.parse((PACKAGE / f"{name}.py").read_text())
+
+
+class InterfaceTest(unittest.TestCase):
+    def test_functions(self):
+        for name, told in FUNCTIONS.items():
+            with self.subTest(module=name):
+                self.assertLessEqual(set(told), set(defined(tree_of(name).body)))
+
+    def test_methods(self):
+        for (name, told_class), told in METHODS.items():
+            with self.subTest(module=name, told_class=told_class):
+                classes = {node.name: node for node in tree_of(name).body if isinstance(node, ast.ClassDef)}
+                self.assertLessEqual(set(told), set(defined(classes[told_class].body)))
+
+
+if __name__ == "__main__":
+    unittest.main()

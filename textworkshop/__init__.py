@@ -1,0 +1,1 @@
+"""Textworkshop: an editor whose scripts are decided for all texts."""
