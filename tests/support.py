@@ -2,8 +2,11 @@
 
 from itertools import product
 
+from textworkshop import guards
+from textworkshop.linetests import other_test, plain_test, range_test
 from textworkshop.signs import all_signs
 from textworkshop.tongues import Tongue
+from textworkshop.words import line_words
 
 
 def texts_up_to(signs, length):
@@ -155,3 +158,103 @@ def tongue_of_weight(weight):
     tongue = Tongue("\n".join(rules))
     assert tongue.weight == weight, (tongue.weight, weight)
     return tongue
+
+
+def any_plain_test(source, signs):
+    """A plain line test; the words are of these signs, of which a newline is left out."""
+    word = source.choice(["all", "last", "number", "short", "begins", "ends", "has", "is"])
+    if word in ("all", "last"):
+        return plain_test(word)
+    if word in ("number", "short"):
+        return plain_test(word, source.randint(1, 3))
+    return plain_test(word, any_text(source, signs.replace("\n", ""), 2))
+
+
+def any_linetest(source, signs):
+    test = any_plain_test(source, signs)
+    if source.random() < 0.3:
+        test = range_test(test, any_plain_test(source, signs))
+    return other_test(test) if source.random() < 0.3 else test
+
+
+def any_leaf(source, signs, kinds):
+    """A leaf of a guard, one that asks for kinds only if kinds is true."""
+    word = source.choice(signs) + any_text(source, signs, 2)
+    kind = source.choice(["code", "quotes", "remarks"])
+    makers = [
+        lambda: guards.text_guard(source.choice(["begins", "ends", "has", "is"]), word),
+        lambda: guards.text_guard("is", any_text(source, signs, 1)),
+        lambda: guards.places_guard(word, source.randint(0, 2)), lambda: guards.signs_guard(source.randint(0, 4)),
+        lambda: guards.lines_guard(any_linetest(source, signs), source.randint(0, 2)),
+        lambda: guards.each_line_guard(any_linetest(source, signs)),
+        lambda: guards.some_line_guard(any_linetest(source, signs)),
+        lambda: guards.order_guard(any_linetest(source, signs), any_linetest(source, signs)),
+        lambda: guards.paired_guard("a", "b", source.randint(1, 2))]
+    if kinds:
+        makers = [
+            guards.closed_guard, lambda: guards.kind_guard(source.choice(["has", "each"]), word, kind),
+            lambda: guards.paired_guard("a", "b", source.randint(1, 2), kind), source.choice(makers)]
+    return source.choice(makers)()
+
+
+def any_guard(source, signs, kinds, levels):
+    """A guard with up to so many levels."""
+    how = source.choice(["leaf", "not", "and", "or"]) if levels else "leaf"
+    if how == "leaf":
+        return any_leaf(source, signs, kinds)
+    if how == "not":
+        return guards.not_guard(any_guard(source, signs, kinds, levels - 1))
+    parts = [any_guard(source, signs, kinds, levels - 1) for _ in range(source.choice([2, 2, 3]))]
+    while sum(len(part.leaves) for part in parts) > 12:
+        parts = [any_leaf(source, signs, kinds) for _ in parts]
+    return guards.and_guard(parts) if how == "and" else guards.or_guard(parts)
+
+
+def goings_on(sentences):
+    """For each beginning of the sentences of a form the words that can come next; None where one may end.
+
+    Sentences are sequences of words: names and brackets as they are, and for
+    the others "quoted" or "number" behind a colon.
+    """
+    nexts = {}
+    for sentence in sentences:
+        for at in range(len(sentence)):
+            nexts.setdefault(sentence[:at], set()).add(sentence[at])
+        nexts.setdefault(sentence, set()).add(None)
+    return nexts
+
+
+def wrong_column(nexts, line):
+    """The column at which a line goes wrong, None if it has the form."""
+    ahead = ()
+    for kind, value, column in line_words(line):
+        word = value if kind in ("name", "bracket") else ":" + kind
+        if word not in nexts[ahead]:
+            return value if kind in ("bad number", "bad quoted") and ":" + kind[4:] in nexts[ahead] else column
+        ahead += (word,)
+    return None if None in nexts[ahead] else len(line) + 1
+
+
+def linetest_sentences():
+    """All sequences of words that are line tests."""
+    plain = [("all",), ("last",), ("short", ":number"), ("number", ":number")]
+    plain += [(word, ":quoted") for word in ("begins", "ends", "has", "is")]
+    tests = plain + [("from", *one, "to", *two) for one in plain for two in plain]
+    return set(tests) | {("not", *test) for test in tests}
+
+
+def spoilt_lines(source, sentences, many):
+    """Lines with the forms of sentences, most of them with some words put in, left out or exchanged."""
+    words = sorted({word for one in sentences for word in one}) + [
+        "to", "not", "all", ":quoted", ":number", ":bad number", ":bad quoted", ":bad sign", "(", ")", "zebra"]
+    told = {
+        ":quoted": ['"a"', '""', '"\\"\\\\"', '"abcdefg"'], ":number": ["1", "0", "99", "7"],
+        ":bad number": ["01", "1234567890", "00"], ":bad quoted": ['"a\\t"', '"\t"', '"a'], ":bad sign": ["A", "-", "\t"]}
+    choices = sorted(sentences)
+    for _ in range(many):
+        line = list(source.choice(choices))
+        for _ in range(source.choice([0, 0, 1, 1, 2])):
+            at = source.randint(0, len(line))
+            line[at:at + source.choice([0, 1])] = source.choice([[], [source.choice(words)], [source.choice(words)]])
+        parts = [source.choice(told.get(word, [word])) for word in line]
+        yield source.choice(["", " "]) + source.choice([" ", "  "]).join(parts) + source.choice(["", "", "  "])

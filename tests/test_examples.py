@@ -5,7 +5,9 @@ import unittest
 from pathlib import Path
 
 TEXT = (Path(__file__).resolve().parent / "examples.txt").read_text()
-MODULES = ("signs", "statetables", "textsets", "tongues", "readings", "rereading", "tonguesets", "words", "linetests")
+MODULES = (
+    "signs", "statetables", "textsets", "tongues", "readings", "rereading", "tonguesets", "words", "linetests",
+    "guards", "guardtexts", "mending")
 
 
 def examples(part):

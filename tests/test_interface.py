@@ -16,6 +16,19 @@ FUNCTIONS = {
                    "idle_rules(tongue)", "lean_tongue(tongue)"],
     "words": ["line_words(line)", "quoted_text(word)"],
     "linetests": ["plain_test(word, argument=None)", "range_test(first, second)", "other_test(test)"],
+    "linetesttexts": ["read_linetest(line)", "linetest_text(test)"],
+    "guards": [
+        "text_guard(how, word)", "places_guard(word, most)", "signs_guard(most)", "lines_guard(test, most)",
+        "each_line_guard(test)", "some_line_guard(test)", "order_guard(first, second)",
+        "paired_guard(opening, closing, depth, kind=None)", "closed_guard()", "kind_guard(how, word, kind)",
+        "not_guard(part)", "and_guard(parts)", "or_guard(parts)"],
+    "guardtexts": ["read_guard(text)"],
+    "guardsets": [
+        "guard_weight(guard, tongue=None)", "linetest_weight(test)", "guard_set(guard, tongue=None)",
+        "implied_text(one, other, tongue=None)", "parting_text(one, other, tongue=None)",
+        "needless_guards(guards, tongue=None)", "clashing_guards(guards, tongue=None)",
+        "lost_place(guard, text, tongue=None)", "least_rest(guard, text, tongue=None)"],
+    "mending": ["mended_text(guard, text, tongue=None)"],
 }
 METHODS = {
     ("statetables", "StateTable"): ["__init__(self, named, rows, good)", "__eq__(self, other)", "moved(self, state, sign)",
@@ -33,6 +46,9 @@ METHODS = {
     ("rereading", "Rereading"): ["__init__(self, tongue, text)", "kinds(self)", "write(self, place, text)",
                                  "cut(self, start, stop)"],
     ("linetests", "LineTest"): ["truths(self, lines)", "__eq__(self, other)"],
+    ("guards", "Guard"): [
+        "__invert__(self)", "__and__(self, other)", "__or__(self, other)", "__eq__(self, other)",
+        "holds_of(self, text, tongue=None)", "reasons(self, text, tongue=None)"],
 }
 
 

@@ -287,11 +287,17 @@ class CodeTest(unittest.TestCase):
             for token in tokenize.generate_tokens(io.StringIO(path.read_text()).readline):
                 with self.subTest(path=path.name, line=token.start[0]):
                     if token.type == tokenize.STRING:
-                        self.assertRegex(token.string, r"\A[\"']")
+                        self.assertRegex(token.string, r"\Af?[\"']")
                         self.assertNotIn("\\", re.sub(r"\\[nt\\\"']", "", token.string))
                     if token.type == tokenize.NAME:
                         self.assertNotRegex(token.string, rf"\A({NO_WORDS})\Z")
                         self.assertNotRegex(token.string, "dataclass|overload|contextmanager")
+
+    def test_braces_in_strings_hold_plain_expressions(self):
+        for path, node in self.each(ast.FormattedValue):
+            self.assertEqual((node.conversion, node.format_spec), (-1, None), self.say(path, node))
+            inner = [part for part in ast.walk(node.value) if isinstance(part, ast.Constant)]
+            self.assertFalse([part for part in inner if not isinstance(part.value, int)], self.say(path, node))
 
     def test_sort_and_literal_sets(self):
         for path, node in self.each(ast.Call):
