@@ -2,8 +2,10 @@
 
 from itertools import product
 
-from textworkshop import guards
+from textworkshop import guards, steps
+from textworkshop.errors import TooMany
 from textworkshop.linetests import other_test, plain_test, range_test
+from textworkshop.scripts import Script
 from textworkshop.signs import all_signs
 from textworkshop.tongues import Tongue
 from textworkshop.words import line_words
@@ -258,3 +260,126 @@ def spoilt_lines(source, sentences, many):
             line[at:at + source.choice([0, 1])] = source.choice([[], [source.choice(words)], [source.choice(words)]])
         parts = [source.choice(told.get(word, [word])) for word in line]
         yield source.choice(["", " "]) + source.choice([" ", "  "]).join(parts) + source.choice(["", "", "  "])
+
+
+def any_step(source, signs, kinds):
+    """A step, one that asks for kinds only if kinds is true."""
+    word = source.choice(signs) + any_text(source, signs, 1)
+    plain = source.choice(signs.replace("\n", "")) + any_text(source, signs.replace("\n", ""), 1)
+    patch, test = any_text(source, signs, 2), any_linetest(source, signs)
+    kind = source.choice(["code", "quotes", "remarks"])
+    makers = [
+        lambda: steps.replace_step(word, patch), lambda: steps.first_step(word, patch),
+        lambda: steps.once_step(word, patch),
+        lambda: steps.replace_step(plain, patch.replace("\n", ""), test=test), lambda: steps.drop_step(test),
+        lambda: steps.keep_step(test), lambda: steps.put_step(source.choice(["ahead", "behind"]), plain, test),
+        lambda: steps.put_step(source.choice(["above", "below"]), patch.replace("\n", ""), test),
+        lambda: steps.strip_step(plain, test), lambda: steps.want_step(any_guard(source, signs, False, 1))]
+    if kinds:
+        makers += [lambda: steps.replace_step(word, patch, kind), lambda: steps.replace_step(word, patch, kind),
+                   lambda: steps.want_step(any_guard(source, signs, True, 1))]
+    return source.choice(makers)()
+
+
+def any_script(source, signs, most, tongue=None):
+    """A script of up to so many steps, which does not grow too much."""
+    while True:
+        told = [any_step(source, signs, tongue is not None) for _ in range(source.randint(0, most))]
+        try:
+            return Script(told, tongue)
+        except TooMany:
+            pass
+
+
+def plain_places(step, text, tongue):
+    """The places that a step of words takes from the left."""
+    size, kinds = len(step.old), plain_kinds(tongue.text if tongue else "", text)
+    lines, place, taken = text.split("\n"), 0, []
+    while place < len(text):
+        fits = text[place:place + size] == step.old
+        if step.kind is not None:
+            fits = fits and set(kinds[place:place + size]) == {step.kind[0]}
+        if step.test is not None:
+            fits = fits and step.test.truths(lines)[text[:place].count("\n")]
+        if fits and not (step.word == "first" and taken):
+            taken.append(place)
+        place += size if fits and step.word != "once" else 1
+    return taken
+
+
+def plain_fates(step, text, tongue=None):
+    """Which signs stay by one step, and what it puts into each gap; None if it refuses."""
+    stays, puts = [True] * len(text), [""] * (len(text) + 1)
+    if step.word == "want":
+        return (stays, puts) if step.guard.holds_of(text, tongue) else None
+    if step.old is not None and step.word != "strip":
+        places = plain_places(step, text, tongue)
+        if step.word == "once" and len(places) != 1:
+            return None
+        for place in places:
+            stays[place:place + len(step.old)] = [False] * len(step.old)
+            puts[place + len(step.old)] = step.new
+        return stays, puts
+    lines = text.split("\n")
+    left = False
+    for number, truth in enumerate(step.test.truths(lines)):
+        start = sum(len(line) + 1 for line in lines[:number])
+        end = start + len(lines[number])
+        if step.word in ("drop", "keep"):
+            goes = truth == (step.word == "drop")
+            if start and (goes or not left):
+                stays[start - 1] = False
+            if goes:
+                stays[start:end] = [False] * (end - start)
+            left = left or not goes
+        elif truth and step.word == "strip" and lines[number][:len(step.old)] == step.old:
+            stays[start:start + len(step.old)] = [False] * len(step.old)
+        elif truth and step.word in ("ahead", "above"):
+            puts[start] = step.new + ("\n" if step.word == "above" else "")
+        elif truth and step.word in ("behind", "below"):
+            puts[end] = ("\n" if step.word == "below" else "") + step.new
+    return stays, puts
+
+
+def plain_result(text, fates):
+    """The text that is left, gap by gap."""
+    stays, puts = fates
+    parts = [puts[0]]
+    for sign, stay, put in zip(text, stays, puts[1:]):
+        parts += [sign if stay else "", put]
+    return "".join(parts)
+
+
+def plain_run(script, text):
+    """The texts of a run, and the number of the step that refuses, or None: line by line and place by place."""
+    texts = [text]
+    for number, step in enumerate(script.steps):
+        done = plain_done(step, texts[-1], script.tongue)
+        if done is None:
+            return texts, number
+        texts.append(done)
+    return texts, None
+
+
+def plain_done(step, text, tongue):
+    """What a step makes of a text, None if it refuses it."""
+    if step.word == "want":
+        return text if step.guard.holds_of(text, tongue) else None
+    if step.old is not None and step.word != "strip":
+        places = plain_places(step, text, tongue)
+        if step.word == "once" and len(places) != 1:
+            return None
+        for place in reversed(places):
+            text = text[:place] + step.new + text[place + len(step.old):]
+        return text
+    told = []
+    for line, truth in zip(text.split("\n"), step.test.truths(text.split("\n"))):
+        if step.word in ("drop", "keep"):
+            told += [line] if truth == (step.word == "keep") else []
+        elif truth:
+            told += {"ahead": lambda: [step.new + line], "behind": lambda: [line + step.new],
+                     "above": lambda: [step.new, line], "below": lambda: [line, step.new],
+                     "strip": lambda: [line[len(step.old):] if line.startswith(step.old) else line]}[step.word]()
+        else:
+            told.append(line)
+    return "\n".join(told)

@@ -7,7 +7,7 @@ from pathlib import Path
 TEXT = (Path(__file__).resolve().parent / "examples.txt").read_text()
 MODULES = (
     "signs", "statetables", "textsets", "tongues", "readings", "rereading", "tonguesets", "words", "linetests",
-    "guards", "guardtexts", "mending")
+    "guards", "guardtexts", "mending", "runs", "origins", "scripttexts")
 
 
 def examples(part):

@@ -29,6 +29,15 @@ FUNCTIONS = {
         "needless_guards(guards, tongue=None)", "clashing_guards(guards, tongue=None)",
         "lost_place(guard, text, tongue=None)", "least_rest(guard, text, tongue=None)"],
     "mending": ["mended_text(guard, text, tongue=None)"],
+    "steps": [
+        "replace_step(old, new, kind=None, test=None)", "first_step(old, new)", "once_step(old, new)",
+        "drop_step(test)", "keep_step(test)", "put_step(where, new, test)", "strip_step(old, test)",
+        "want_step(guard)"],
+    "scripts": [],
+    "runs": ["run_script(script, text)", "refused_step(script, text)", "run_stages(script, text)",
+             "taken_places(step, text, tongue=None)"],
+    "origins": ["fates_of(script, text)", "origins_of(script, text)", "place_behind(script, text, place)"],
+    "scripttexts": ["read_script(text, *, tongue=None)", "step_text(step)", "script_text(script)"],
 }
 METHODS = {
     ("statetables", "StateTable"): ["__init__(self, named, rows, good)", "__eq__(self, other)", "moved(self, state, sign)",
@@ -49,6 +58,9 @@ METHODS = {
     ("guards", "Guard"): [
         "__invert__(self)", "__and__(self, other)", "__or__(self, other)", "__eq__(self, other)",
         "holds_of(self, text, tongue=None)", "reasons(self, text, tongue=None)"],
+    ("steps", "Step"): ["__eq__(self, other)"],
+    ("scripts", "Script"): ["__init__(self, steps, tongue=None)", "__eq__(self, other)"],
+    ("origins", "Fates"): [],
 }
 
 

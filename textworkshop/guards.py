@@ -4,7 +4,7 @@ from textworkshop.errors import BadNumber, BadWord, NoTongue, TooMany
 from textworkshop.kindwords import is_kind
 from textworkshop.leaftruths import leaf_text, leaf_truth
 from textworkshop.linetests import LineTest, is_within
-from textworkshop.signs import LONGEST_WORD, is_sign, is_text, is_word
+from textworkshop.signs import is_patch, is_sign, is_text, is_word
 from textworkshop.tongues import Tongue
 
 PLACES_BOUNDS = (0, 9)
@@ -109,7 +109,7 @@ def text_guard(how, word):
     """begins W, ends W, has W or is W."""
     if not isinstance(how, str) or how not in ("begins", "ends", "has", "is"):
         raise BadWord("how")
-    if not is_word(word) and not (how == "is" and is_text(word) and len(word) <= LONGEST_WORD):
+    if not (is_patch(word) if how == "is" else is_word(word)):
         raise BadWord("word")
     return leaf_of(how, word)
 

@@ -1,13 +1,12 @@
 """Tests of the lines of a text."""
 
 from textworkshop.errors import BadNumber, BadWord
-from textworkshop.signs import is_text, is_whole
+from textworkshop.signs import is_patch, is_whole
 
 WORD_TESTS = ("begins", "ends", "has", "is")
 NUMBER_TESTS = ("short", "number")
 BARE_TESTS = ("all", "last")
 BOUNDS = {"short": (0, 40), "number": (1, 6)}
-LONGEST_ARGUMENT = 6
 
 
 class LineTest:
@@ -101,7 +100,7 @@ def is_plain(value):
 
 def is_line_word(value):
     """Whether any value can be the word of a test: up to six signs without newline."""
-    return is_text(value) and len(value) <= LONGEST_ARGUMENT and "\n" not in value
+    return is_patch(value) and "\n" not in value
 
 
 def is_within(value, bounds):

@@ -27,6 +27,11 @@ def is_word(value):
     return is_text(value) and 1 <= len(value) <= LONGEST_WORD
 
 
+def is_patch(value):
+    """Whether any value is a text of no more signs than a word may have, perhaps of none."""
+    return is_text(value) and len(value) <= LONGEST_WORD
+
+
 def is_whole(value):
     """Whether any value is an integer; truths are none."""
     return isinstance(value, int) and not isinstance(value, bool)
