@@ -83,6 +83,15 @@ class MendingTest(unittest.TestCase):
         self.assertEqual(mended_text(read_guard('not has "\\n" and not at most 1 signs'), ""), (2, "  "))
         self.assertEqual(mended_text(read_guard('at most 0 of "a"'), "aba"), (2, "b"))
 
+    def test_no_shorter_text_by_more_changes(self):
+        # Without c the text would be shorter, but one change is enough.
+        self.assertEqual(mended_text(read_guard('ends "z" and not ends "cz"'), "cab"), (1, "caz"))
+        self.assertEqual(mended_text(read_guard('ends "z" and not has "cz"'), "cc"), (2, "z"))
+        # A third change would make it a!aa or the like, as long, and earlier in the order of signs.
+        for guard, text, told in (('has "aa"', "b!b\n", "aab\n"), ('some line begins "aa"', "b!\n\n\n", "aa\n\n\n"),
+                                  ('has "\\na\\n"', "a!\nba", "\na\nba")):
+            self.assertEqual(mended_text(read_guard(guard), text), (2, told))
+
     def test_nothing_to_mend_and_nothing_that_could(self):
         self.assertEqual(mended_text(A, "xxa"), (0, "xxa"))
         self.assertEqual(mended_text(text_guard("is", ""), ""), (0, ""))

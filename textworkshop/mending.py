@@ -68,7 +68,8 @@ class Mending:
         while level:
             fresh = []
             for start in level:
-                for spot in self._free_spots(start):
+                spots = self._free_spots(start)
+                for spot in spots:
                     if spot in self._costs:
                         break
                     self._costs[spot] = changes
@@ -122,8 +123,10 @@ class Mending:
         spots = list(found)
         at = 0
         while at < len(spots):
-            for sign, to in self._onward(spots[at]):
-                if not sign and to not in found and self._rests.get(to) == self._rests[spots[at]]:
+            spot = spots[at]
+            ways = self._onward(spot)
+            for sign, to in ways:
+                if not sign and to not in found and self._rests.get(to) == self._rests[spot]:
                     found[to] = True
                     spots.append(to)
             at += 1
