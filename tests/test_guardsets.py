@@ -176,7 +176,7 @@ class CompareTest(unittest.TestCase):
         told = self.guards(323, 40)
         for _ in range(120):
             some = [source.choice(told) for _ in range(source.choice([0, 1, 2, 3, 3, 4]))]
-            states = [guard_set(guard).table.states for guard in {guard.written: guard for guard in some}.values()]
+            states = [guard_set(guard).table.states for guard in some]
             weight = 1
             for many in states:
                 weight *= many
@@ -250,13 +250,25 @@ class CompareTest(unittest.TestCase):
                      lambda one, two: clashing_guards([one, two])):
             self.assertEqual(told_error(self, TooHeavy, call, more, more | A & signs_guard(0)), (51 * 51,))
             call(some, most)
-        # 50 * 50 is 2500; the same guard counts once, however often it is given.
+        # 50 * 50 is 2500.
         alike = some & some
         self.assertIsNone(parting_text(some, alike))
         self.assertIsNone(parting_text(FULL, FULL))
-        self.assertEqual(needless_guards([some] * 40), tuple(range(39)))
-        self.assertEqual(clashing_guards([some, ~A, some, A]), (1, 3))
+        self.assertEqual(clashing_guards([A, ~A, A]), (1, 2))
         self.assertEqual(told_error(self, TooHeavy, needless_guards, [some, alike, A]), (5000,))
+
+    def test_a_guard_that_is_given_again_counts_again(self):
+        some, every = signs_guard(48), read_guard("some line all")
+        for call in (needless_guards, clashing_guards):
+            self.assertEqual(told_error(self, TooHeavy, call, [some] * 3), (50 * 50 * 50,))
+            self.assertEqual(told_error(self, TooHeavy, call, (A,) * 12), (4096,))
+            self.assertEqual(told_error(self, TooHeavy, call, [some, A, signs_guard(48)]), (5000,))
+        for call in (implied_text, parting_text):
+            self.assertEqual(told_error(self, TooHeavy, call, signs_guard(49), signs_guard(49)), (2601,))
+            self.assertIsNone(call(some, signs_guard(48)))
+        self.assertEqual(needless_guards([A] * 11), tuple(range(10)))
+        self.assertEqual(needless_guards([every] * 40), tuple(range(40)))
+        self.assertEqual(clashing_guards([some, some]), ())
 
 
 class RestTest(unittest.TestCase):

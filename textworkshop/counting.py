@@ -102,7 +102,7 @@ def numbered_text(table, length, number):
     signs, state = [], 0
     for block in reversed(range(len(kept))):
         ways = ways_on(kept[block], arrows, min(step, length - block * step) - 1)
-        for rests in reversed(ways):
+        for rests in reversed(list(ways)):
             sign, number = chosen_sign(table, state, rests, number)
             signs.append(sign)
             state = table.moved(state, sign)
@@ -144,7 +144,7 @@ def text_to(came, state):
     while came[state] is not None:
         state, sign = came[state]
         signs.append(sign)
-    return "".join(reversed(signs))
+    return "".join(signs[::-1])
 
 
 def texts_in_all(table):

@@ -81,15 +81,14 @@ def kept_set(guard, tongue):
 def guard_sets(guards, tongue):
     """The sets of guards; raises the errors of each one, then TooHeavy for all together.
 
-    A guard that is given twice counts once.
+    A guard that is given twice counts twice; its set is made once.
     """
     sets = {}
+    product = 1
     for guard in guards:
         if guard.written not in sets:
             sets[guard.written] = guard_set(guard, tongue)
-    product = 1
-    for kept in list(sets.values()):
-        product *= kept.table.states
+        product *= sets[guard.written].table.states
     check_weight(product)
     return [sets[guard.written] for guard in guards]
 
@@ -138,9 +137,9 @@ def clashing_guards(guards, tongue=None):
 def shared_sets(sets):
     """Of each place in a list of sets what all sets from there on have; at the end all texts."""
     shared = [all_texts()]
-    for own in reversed(sets):
+    for own in reversed(list(sets)):
         shared.append(shared[-1] & own)
-    return list(reversed(shared))
+    return shared[::-1]
 
 
 def lost_place(guard, text, tongue=None):

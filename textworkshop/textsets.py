@@ -79,7 +79,7 @@ class TextSet:
         """The texts that give one of the set if the word is put behind them."""
         table = self.table
         truths = [table.is_good(state) for state in range(table.states)]
-        for sign in reversed(word):
+        for sign in reversed(list(word)):
             truths = [truths[table.moved(state, sign)] for state in range(table.states)]
         return TextSet(StateTable(table.named, table.rows, [state for state, truth in enumerate(truths) if truth]))
 
