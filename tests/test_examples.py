@@ -7,7 +7,8 @@ from pathlib import Path
 TEXT = (Path(__file__).resolve().parent / "examples.txt").read_text()
 MODULES = (
     "signs", "statetables", "textsets", "tongues", "readings", "rereading", "tonguesets", "words", "linetests",
-    "guards", "guardtexts", "mending", "runs", "origins", "scripttexts")
+    "guards", "guardtexts", "mending", "runs", "origins", "scripttexts", "weights", "feeds", "alikes", "carried",
+    "clashes", "idles", "merges", "eitherorder", "desks", "trust", "records")
 
 
 def examples(part):

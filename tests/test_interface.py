@@ -38,6 +38,25 @@ FUNCTIONS = {
              "taken_places(step, text, tongue=None)"],
     "origins": ["fates_of(script, text)", "origins_of(script, text)", "place_behind(script, text, place)"],
     "scripttexts": ["read_script(text, *, tongue=None)", "step_text(step)", "script_text(script)"],
+    "weights": ["step_weight(step, *, tongue=None)", "script_weight(script)", "test_guess(test)"],
+    "feeds": [],
+    "alikes": ["unlike_text(first, second, *, under=None)", "unrestored_text(first, second, *, under=None)"],
+    "carried": [
+        "broken_text(script, goal, *, under=None)", "refused_text(script, number=None, *, under=None)",
+        "needed_set(script, goal)", "needed_many(script, goal, length)", "origin_text(script, result, *, under=None)"],
+    "clashes": ["clash_texts(script, *, under=None)"],
+    "idles": [
+        "part_script(script, numbers)", "moved_script(script, number, place)",
+        "idle_text(script, number, *, under=None)", "idle_steps(script, *, under=None)",
+        "least_steps(script, *, under=None)", "shown_text(script, number, truth, *, under=None)",
+        "order_text(script, number, *, under=None)", "movable_places(script, number, *, under=None)"],
+    "merges": ["conflict_pieces(text, one, other)", "merged_text(text, one, other)", "merged_hunks(text, one, other)",
+               "merged_pieces(text, one, other)"],
+    "eitherorder": ["order_parting(one, other, *, under=None)", "merge_conflict(one, other, *, under=None)",
+                    "merge_parting(one, other, *, under=None)"],
+    "desks": [],
+    "trust": ["is_trusted(desk, name, label)", "trust_gap(desk, name, label)"],
+    "records": [],
 }
 METHODS = {
     ("statetables", "StateTable"): ["__init__(self, named, rows, good)", "__eq__(self, other)", "moved(self, state, sign)",
@@ -61,6 +80,19 @@ METHODS = {
     ("steps", "Step"): ["__eq__(self, other)"],
     ("scripts", "Script"): ["__init__(self, steps, tongue=None)", "__eq__(self, other)"],
     ("origins", "Fates"): [],
+    ("feeds", "Feed"): ["__init__(self, script)", "is_lost(self)", "push(self, text)", "remainder(self)",
+                        "parted(self)"],
+    ("desks", "Desk"): [
+        "__init__(self)", "__getitem__(self, name)", "__contains__(self, name)", "__iter__(self)",
+        "open_file(self, name, text, *, tongue=None)", "close_file(self, name)", "add_guard(self, name, guard)",
+        "remove_guard(self, name, number)", "file_guards(self, name)", "keep_script(self, name, script)",
+        "script_of(self, name)", "drop_script(self, name)", "script_names(self)",
+        "exchange_script(self, name, script)", "do_script(self, name, label)",
+        "do_part(self, name, start, stop, label)", "write_text(self, name, place, text)",
+        "cut_text(self, name, start, stop)", "merge_scripts(self, name, one, other)",
+        "hide_lines(self, name, first, last)", "show_lines(self, name, number)", "hidden_of(self, name)",
+        "whole_text(self, name)", "undo(self)", "redo(self)", "attempt(self, action)"],
+    ("records", "Recorder"): ["__init__(self, desk)", "do_script(self, name, label)", "script(self)", "clear(self)"],
 }
 
 
