@@ -313,6 +313,46 @@ class CodeTest(unittest.TestCase):
         self.assertEqual(len(lines), len(set(lines)))
 
 
+class IndexTest(unittest.TestCase):
+    """What holds in a package with a class that has __getitem__, and with one that is iterated over and has __len__."""
+
+    def test_classes_with_items_tell_how_they_are_iterated(self):
+        found = 0
+        for tree in TREES.values():
+            for node in [n for n in ast.walk(tree) if isinstance(n, ast.ClassDef)]:
+                methods = {f.name: f for f in node.body if isinstance(f, ast.FunctionDef)}
+                if "__getitem__" in methods:
+                    found += 1
+                    self.assertRegex(ast.unparse(methods["__iter__"].body[0]), r"\Areturn iter\(self(\.\w+){1,2}\)\Z")
+                    self.assertEqual(len(methods["__iter__"].body), 1)
+                self.assertNotIn("keys", methods)
+        self.assertEqual(found, 1)
+
+    def test_reversed_takes_lists_and_ranges(self):
+        for path, tree in TREES.items():
+            for node in ast.walk(tree):
+                if isinstance(node, ast.Call) and isinstance(node.func, ast.Name) and node.func.id == "reversed":
+                    self.assertIn(node.args[0].func.id, ("list", "tuple", "sorted", "range"), path.name)
+
+    def test_words_that_do_not_occur(self):
+        for path in FILES:
+            self.assertNotRegex(path.read_text(), r"\(type\)|Meta|metaclass=|_wall|itertools")
+
+    def test_finally_assigns_only(self):
+        for path, tree in TREES.items():
+            for node in [n for n in ast.walk(tree) if isinstance(n, ast.Try) and n.finalbody]:
+                for part in [p for row in node.finalbody for p in ast.walk(row)]:
+                    self.assertIsInstance(part, (ast.If, ast.Assign, ast.Compare, ast.Is, ast.Name, ast.Attribute,
+                                                 ast.Constant, ast.expr_context), path.name)
+
+    def test_stars_in_calls_stand_over_names(self):
+        for path, tree in TREES.items():
+            for node in [n for n in ast.walk(tree) if isinstance(n, ast.Call)]:
+                for part in node.args:
+                    if isinstance(part, ast.Starred):
+                        self.assertIsInstance(part.value, (ast.Name, ast.Attribute), f"{path.name}:{node.lineno}")
+
+
 class OperatorTest(unittest.TestCase):
     """What operators run changes nothing but lists and dicts that the running function made."""
 

@@ -65,7 +65,7 @@ class CertainWays:
                 shorter = shared_beginning(shorter, told + common[to])
         return shorter
 
-    def begun(self):
+    def first_ways(self):
         """The ways that are alive behind the empty text."""
         return [(state, word, 0) for state, word in self._ways.starts]
 
@@ -107,7 +107,7 @@ class CertainWays:
         return "".join(signs), "".join(parts) + self._ways.ends[state]
 
     def _other_end(self, live, begun):
-        """A text with which the result does not go on with this sign; with no sign, if begun is empty."""
+        """A text whose result does not go on with the sign begun; if that is empty, one whose result goes on."""
         spots = {}
         for state, more, owed in live:
             if more and more[0] != begun:

@@ -42,8 +42,7 @@ def done_file(name, file, hunks):
     """The file behind a deed with these hunks; raises Touched, Broken."""
     shown = done_text(file.shown, hunks)
     lots = tuple([(number, moved_place(place, hunks), text) for number, place, text in file.lots])
-    torn = [number for number, place, _ in file.lots if is_within(place, hunks)]
-    torn.extend([number for number, place, _ in lots if not is_line_start(shown, place)])
+    torn = [number for number, place, _ in file.lots if is_torn(place, shown, hunks)]
     if torn:
         raise Touched(min(torn))
     whole = whole_of(shown, lots)
@@ -60,14 +59,14 @@ def moved_place(place, hunks):
     return place + sum([len(word) - (stop - start) for start, stop, word in hunks if stop <= place and start < place])
 
 
-def is_within(place, hunks):
-    """Whether a lot stands within the signs that a hunk takes away."""
-    return place is not None and any([start < place < stop for start, stop, _ in hunks])
-
-
-def is_line_start(shown, place):
-    """Whether a line begins at the place of a lot, or the lot stands at the end."""
-    return place is None or place == 0 or shown[place - 1] == "\n"
+def is_torn(place, shown, hunks):
+    """Whether a lot stands within signs that a hunk takes away, or no line of the new text begins where it comes to."""
+    if place is None:
+        return False
+    if any([start < place < stop for start, stop, _ in hunks]):
+        return True
+    behind = moved_place(place, hunks)
+    return behind > 0 and shown[behind - 1] != "\n"
 
 
 def hidden_file(name, file, first, last):

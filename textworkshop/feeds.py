@@ -16,7 +16,7 @@ class Feed:
         check_question(parts, [])
         self._script = script
         self._ways = CertainWays(script_ways(parts, question_signs(parts, [])), named_in(parts, []))
-        self._live = self._ways.begun()
+        self._live = self._ways.first_ways()
         self.text = ""
         self.told = ""
         self._tell()

@@ -34,9 +34,9 @@ class Part:
 
     def ways(self, signs, refusing):
         """The ways of the step for texts of these signs; those on which it refuses only if they are asked for."""
-        return met_ways(signs, self._machine(signs, refusing))
+        return met_ways(signs, self._machine_of(signs, refusing))
 
-    def _machine(self, signs, refusing):
+    def _machine_of(self, signs, refusing):
         """The machine of the step."""
         step = self.step
         match step.word:
