@@ -76,6 +76,14 @@ class ClashTest(unittest.TestCase):
         # One text is much longer than the other one.
         self.assertEqual(sorted(clash_texts(made('replace "aaaaaa" by "b"'))), ["aaaaaa", "b"])
 
+    def test_signs_that_go_while_the_other_way_has_told_more(self):
+        for lines, many in (
+                (['drop lines number 1', 'once "b" by "\\n"'], 5), (['below "" on lines not last', 'want has "a"', (
+                    'replace "ba" by "\\n"')], 6), (['drop lines number 1', 'once "a" by "b"', 'above "x" on lines all'], 5)):
+            script = made(*lines)
+            self.assertEqual(many, fewest_signs(script, None, list(texts_up_to("\n ab", 4))))
+            self.assertEqual(len("".join(clash_texts(script))), many)
+
     def test_scripts_without_a_clash(self):
         for lines in ([], ['ahead "#" on lines all'], ['behind "x" on lines last'], ['below "" on lines all'],
                       ['replace "a" by "a"'], ['want has "b"'], ['replace "\\n" by "\\n"', 'above "q" on lines all']):

@@ -95,31 +95,27 @@ def needed_many(script, goal, length):
     check_question(parts, [goal])
     signs = question_signs(parts, [goal], 1)
     ways = chained(signs, script_links(parts, signs) + set_links(goal, signs))
-    arrows = counted_moves(ways, named_in(parts, [goal]))
-    many = {}
-    for state, _ in ways.starts:
-        many[state] = many.get(state, 0) + 1
+    targets = counted_targets(ways, named_in(parts, [goal]))
+    many = [0 if word is None else 1 for word in ways.ends]
     for _ in range(length):
-        further = {}
-        for state, count in many.items():
-            for to, signs_to in arrows[state]:
-                further[to] = further.get(to, 0) + count * signs_to
-        many = further
-    return sum([count for state, count in many.items() if ways.ends[state] is not None])
+        many = [sum([count * sum([many[to] for to in states]) for count, states in lots]) for lots in targets]
+    return sum([many[state] for state, _ in ways.starts])
 
 
-def counted_moves(ways, named):
-    """For each state the states behind it, and by how many signs; one that is not named counts for all of these."""
+def counted_targets(ways, named):
+    """For each state lots of the states behind one sign: tuples (count, states), by how many signs each one counts.
+
+    A sign that is not named stands for all such signs.
+    """
     others = len(all_signs()) - len(named)
     counts = [1 if sign in named else others for sign in ways.signs]
-    arrows = []
+    targets = []
     for row in ways.moves:
-        many = {}
+        lots = {}
         for count, moves in zip(counts, row):
-            for move in moves:
-                many[move[0]] = many.get(move[0], 0) + count
-        arrows.append(tuple(many.items()))
-    return arrows
+            lots.setdefault(count, []).extend([move[0] for move in moves])
+        targets.append(tuple(lots.items()))
+    return targets
 
 
 def origin_text(script, result, *, under=None):

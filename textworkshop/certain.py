@@ -56,8 +56,6 @@ class CertainWays:
     def _shortened(self, state, common):
         """What the common beginning of a state has in common with all that its moves tell."""
         shorter = common[state]
-        if self._ways.ends[state] is not None:
-            shorter = shared_beginning(shorter, self._ways.ends[state])
         for row in self._moves[state]:
             for to, told in row:
                 if not shorter:
