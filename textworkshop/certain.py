@@ -79,11 +79,11 @@ class CertainWays:
 
     def certain(self, live):
         """What is certain of all goings on, more than was told."""
-        common = None
-        for state, more, owed in live:
-            told = more + self._common[state][owed:]
-            common = told if common is None else shared_beginning(common, told)
-        return "" if common is None else common
+        if not live:
+            return ""
+        told = [more + self._common[state][owed:] for state, more, owed in live]
+        # What the first one and the last one in the order of signs have in common, all between them have.
+        return shared_beginning(min(told), max(told))
 
     def parting(self, live):
         """Two texts with which the results part where what is told ends, None if all results are the same."""
@@ -149,9 +149,11 @@ def behind_told(live, many):
 
 def shared_beginning(one, other):
     """The longest text with which both texts begin."""
-    if other.startswith(one):
-        return one
-    for place, (here, there) in enumerate(zip(one, other)):
-        if here != there:
-            return one[:place]
-    return other
+    low, high = 0, min(len(one), len(other))
+    while low < high:
+        middle = (low + high + 1) // 2
+        if one[low:middle] == other[low:middle]:
+            low = middle
+        else:
+            high = middle - 1
+    return one[:low]
