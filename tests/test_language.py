@@ -268,6 +268,17 @@ class CodeTest(unittest.TestCase):
                 self.assertIn(node.func.attr, own_methods | METHODS, self.say(path, node))
                 self.assertTrue(node.func.attr in own_methods or not node.keywords, self.say(path, node))
 
+    def test_methods_are_called_where_they_stand(self):
+        own_methods = {f.name for path, c in self.each(ast.ClassDef) for f in c.body if isinstance(f, ast.FunctionDef)}
+        stored = {n.attr for path, n in self.each(ast.Attribute) if isinstance(n.ctx, ast.Store)}
+        calls = [node for path, node in self.each(ast.Call)]
+        called = {node.func for node in calls}
+        keys = {k.value for node in calls for k in node.keywords if k.arg == "key"}
+        for path, node in self.each(ast.Attribute):
+            if isinstance(node.ctx, ast.Load) and node.attr in (own_methods | METHODS) - stored:
+                is_own_key = node in keys and node.attr in own_methods
+                self.assertTrue(node in called or is_own_key, f"{self.say(path, node)}: {ast.unparse(node)}")
+
     def test_no_name_is_a_method_and_an_attribute_of_one_class(self):
         for path, node in self.each(ast.ClassDef):
             methods = [f.name for f in node.body if isinstance(f, ast.FunctionDef)]

@@ -163,7 +163,9 @@ class ConflictSearch:
     def shortest(self):
         """A shortest text with a conflict, None if there is none."""
         starts = self._fresh([state for state, _ in self._sides.firsts()])
-        return first_shown(self._signs, starts, self._onward, self._is_shown)
+        return first_shown(self._signs, starts,
+                           lambda state, at: self._onward(state, at),
+                           lambda state: self._is_shown(state))
 
     def _onward(self, state, at):
         """The states behind a sign."""

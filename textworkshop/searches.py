@@ -84,7 +84,9 @@ class Comparing:
         for one, word in self._one.starts:
             for two, other in self._two.starts:
                 starts.extend(self._fresh(one, two, rest_of(word, other)))
-        return first_shown(self._one.signs, starts, self._onward, self._is_shown)
+        return first_shown(self._one.signs, starts,
+                           lambda node, at: self._onward(node, at),
+                           lambda node: self._is_shown(node))
 
     def _fresh(self, one, two, rest):
         """The node if it has to be followed, in a list."""
